@@ -1,0 +1,1 @@
+"""Mapdye: webs drawn in the plane, and their dyes."""
