@@ -1,5 +1,7 @@
 """Lands: the rounds of sides of a web, and by their number whether it is plane."""
 
+from mapdye.errors import NotPlane
+
 
 def round_from(web, side):
     """The sides of the round that this side is in, from it on."""
@@ -37,3 +39,9 @@ def is_plane(web):
     """Whether points and lands together are two more than ties."""
     points, ties, rounds = count(web)
     return points + rounds == ties + 2
+
+
+def need_plane(web):
+    """Refuses a web that is not plane."""
+    if not is_plane(web):
+        raise NotPlane(count(web))

@@ -5,8 +5,8 @@ from mapdye.errors import NoWeb, TooMany
 MOST_POINTS = 14
 
 
-def is_point(thing, many):
-    """Whether the thing is one of the points 0 to many - 1."""
+def is_among(thing, many):
+    """Whether the thing is one of the whole numbers 0 to many - 1."""
     # Python's True and False are integers, but no whole numbers here.
     return isinstance(thing, int) and not isinstance(thing, bool) and 0 <= thing < many
 
@@ -14,7 +14,7 @@ def is_point(thing, many):
 def alien_fault(rows):
     for p, row in enumerate(rows):
         for q in row:
-            if not is_point(q, len(rows)):
+            if not is_among(q, len(rows)):
                 return ("alien", p, q)
     return None
 
@@ -105,7 +105,7 @@ class Web:
     def tied(self, a, b):
         """Whether a and b, any two whole numbers, are tied points."""
         many = len(self.rows)
-        return is_point(a, many) and is_point(b, many) and b in self.rows[a]
+        return is_among(a, many) and is_among(b, many) and b in self.rows[a]
 
     def behind(self, p, q):
         """The point right behind q in p's turn; p and q are tied."""

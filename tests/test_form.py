@@ -67,6 +67,29 @@ def bound_names(tree):
     return names
 
 
+def defined_names(tree):
+    """The names that the file defines at module level, imports left out."""
+    names = [node.name for node in tree.body if isinstance(node, (ast.FunctionDef, ast.ClassDef))]
+    return names + [node.targets[0].id for node in tree.body if isinstance(node, ast.Assign)]
+
+
+def is_set(node):
+    called = isinstance(node, ast.Call) and isinstance(node.func, ast.Name) and node.func.id in ("set", "frozenset")
+    return called or isinstance(node, (ast.Set, ast.SetComp))
+
+
+def used_as_a_set(node, parents):
+    """Whether a set, or the name of a stored one, stands where one may."""
+    above = parents[node]
+    if isinstance(above, ast.Compare):
+        return node in above.comparators and isinstance(above.ops[0], (ast.In, ast.NotIn))
+    if isinstance(above, ast.Call):
+        return isinstance(above.func, ast.Name) and above.func.id in ("len", "sorted")
+    if isinstance(above, ast.Attribute):
+        return above.attr in ("add", "discard") and isinstance(parents[parents[above]], ast.Expr)
+    return isinstance(above, (ast.If, ast.While)) and node == above.test
+
+
 def local_names(function):
     """The parameters and variables of a function."""
     names = [node.arg for node in ast.walk(function) if isinstance(node, ast.arg)]
@@ -134,7 +157,18 @@ class Trees(unittest.TestCase):
             self.assertNotIn("*", [alias.name for alias in node.names], where)
             source = dict(self.trees)[PACKAGE.joinpath(*node.module.split(".")[1:]).with_suffix(".py")]
             for alias in node.names:
-                self.assertIn(alias.name, bound_names(source), where)
+                self.assertIn(alias.name, defined_names(source), where)
+
+    def test_no_files_import_from_each_other(self):
+        left = {
+            path.stem: {node.module.split(".")[1] for node in tree.body if isinstance(node, ast.ImportFrom)}
+            for path, tree in self.trees
+        }
+        while left:
+            free = [name for name, wanted in left.items() if not wanted & set(left)]
+            self.assertNotEqual(free, [], left)
+            for name in free:
+                del left[name]
 
     def test_functions(self):
         for where, node in self.nodes(ast.FunctionDef):
@@ -179,6 +213,31 @@ class Trees(unittest.TestCase):
             for node in ast.walk(tree):
                 if isinstance(node, ast.Name) and isinstance(node.ctx, ast.Load) and node.id not in bound:
                     self.assertIn(node.id, BUILTINS, (path, node.lineno))
+
+    def test_sets(self):
+        for path, tree in self.trees:
+            parents = {held: node for node in ast.walk(tree) for held in ast.iter_child_nodes(node)}
+            for function in functions_in(tree):
+                assigned = [node for node in ast.walk(function) if isinstance(node, ast.Assign)]
+                stored = [node.targets[0].id for node in assigned if is_set(node.value)]
+                self.assertEqual(len(stored), len(set(stored)), path)
+                for node in ast.walk(function):
+                    if isinstance(node, ast.Name) and node.id in stored and isinstance(node.ctx, ast.Load):
+                        self.assertTrue(used_as_a_set(node, parents), (path, node.lineno))
+            for node in ast.walk(tree):
+                if is_set(node) and not isinstance(parents[node], ast.Assign):
+                    self.assertTrue(used_as_a_set(node, parents), (path, node.lineno))
+
+    def test_iterated_at_once(self):
+        for path, tree in self.trees:
+            parents = {held: node for node in ast.walk(tree) for held in ast.iter_child_nodes(node)}
+            for node in ast.walk(tree):
+                name = getattr(getattr(node, "func", None), "id", None)
+                if name in ("zip", "enumerate", "reversed", "range"):
+                    above = parents[node]
+                    looped = isinstance(above, (ast.For, ast.comprehension)) and node == above.iter
+                    called = isinstance(above, ast.Call) and above.func.id in ("list", "tuple", "dict", "sorted", "zip")
+                    self.assertTrue(looped or called, (path, node.lineno))
 
     def test_is_only_with_none_true_and_false(self):
         for where, node in self.nodes(ast.Compare):

@@ -3,41 +3,10 @@
 import itertools
 import unittest
 
-from mapdye.lands import count, is_plane, lands
+from mapdye.errors import NotPlane
+from mapdye.lands import count, is_plane, lands, need_plane
 from mapdye.webs import Web
-
-K4_PLANE = [[1, 2, 3], [0, 3, 2], [0, 1, 3], [0, 2, 1]]
-K4_TORUS = [[1, 2, 3], [0, 2, 3], [0, 1, 3], [0, 1, 2]]
-CUBE = [[1, 3, 4], [2, 0, 5], [3, 1, 6], [0, 2, 7], [7, 5, 0], [4, 6, 1], [5, 7, 2], [6, 4, 3]]
-
-
-def cycle(many):
-    return [[(p + 1) % many, (p - 1) % many] for p in range(many)]
-
-
-def path(many):
-    return [[q for q in (p - 1, p + 1) if 0 <= q < many] for p in range(many)]
-
-
-def all_turns(neighbours):
-    """All turns in which the points have these neighbours, each once, whichever stands first."""
-    choices = [
-        [[row[0]] + list(rest) for rest in itertools.permutations(row[1:])] if row else [[]] for row in neighbours
-    ]
-    for turns in itertools.product(*choices):
-        yield [list(row) for row in turns]
-
-
-def whole(many):
-    return [[q for q in range(many) if q != p] for p in range(many)]
-
-
-def two_parts(one, other):
-    return [list(range(one, one + other)) for _ in range(one)] + [list(range(one)) for _ in range(other)]
-
-
-def sides_of(land):
-    return [(land[place], land[(place + 1) % len(land)]) for place in range(len(land))]
+from samples import CUBE, K4_PLANE, K4_TORUS, all_turns, cycle, path, sides_of, two_parts, whole
 
 
 class LandsTold(unittest.TestCase):
@@ -108,6 +77,15 @@ class CountsTold(unittest.TestCase):
                 self.assertEqual(told, counted)
                 self.assertIs(type(told), tuple)
                 self.assertIs(is_plane(Web(turns)), plane)
+
+    def test_another_one_is_refused_where_a_plane_one_is_asked_for(self):
+        for turns in ([[]], [[1], [0]], K4_PLANE, CUBE, path(14)):
+            self.assertIsNone(need_plane(Web(turns)))
+        for turns, counted in ((K4_TORUS, (4, 6, 2)), (whole(5), count(Web(whole(5))))):
+            with self.assertRaises(NotPlane) as caught:
+                need_plane(Web(turns))
+            self.assertEqual(caught.exception.counted, counted)
+            self.assertIs(type(caught.exception.counted), tuple)
 
     def spread(self, neighbours):
         """For each number by which points and lands fall short of ties and two: of how many turns."""

@@ -5,16 +5,8 @@ import unittest
 
 from mapdye.errors import NoWeb, TooMany
 from mapdye.webs import Web
-
-K4 = [[1, 2, 3], [0, 3, 2], [0, 1, 3], [0, 2, 1]]
-
-
-def cycle(many):
-    return [[(p + 1) % many, (p - 1) % many] for p in range(many)]
-
-
-def path(many):
-    return [[q for q in (p - 1, p + 1) if 0 <= q < many] for p in range(many)]
+from samples import K4_PLANE as K4
+from samples import cycle, path
 
 
 def fault_of(turns):
