@@ -1,21 +1,49 @@
 """The refusals: MapError, and under it one class for each kind."""
 
-MOST_COPIED = 200
+MOST_COPIED = 1000000
 
 
-def copied(thing, left):
-    """The thing as it stands, but in lists, tuples and dicts of its own.
+def nested_places(holder):
+    """The places of a list, or the keys of a dict, at which it holds a list, a tuple or a dict."""
+    places = list(holder) if isinstance(holder, dict) else list(range(len(holder)))
+    return [place for place in places if isinstance(holder[place], (list, tuple, dict))]
 
-    left is a list of one number: how many of these may still be made. A list may hold itself, and copying it
-    would not end; so, when none are left, the rest is told as it is.
+
+def own_of(held, left):
+    """A new dict for a dict, a new list for a list or a tuple; with the same in it, or empty if nothing is left."""
+    if isinstance(held, dict):
+        return dict(held) if left > 0 else {}
+    return list(held) if left > 0 else []
+
+
+def copied(thing):
+    """The thing as it stands, but in lists, tuples and dicts of its own, throughout.
+
+    A list may hold itself, and copying it would not end. So what lies behind the first so many places, those
+    further out counted ahead, is told as lists, tuples and dicts with nothing in them.
     """
-    if not isinstance(thing, (list, tuple, dict)) or left[0] == 0:
-        return thing
-    left[0] -= 1
-    if isinstance(thing, dict):
-        return {key: copied(held, left) for key, held in thing.items()}
-    parts = [copied(held, left) for held in thing]
-    return parts if isinstance(thing, list) else tuple(parts)
+    top = [thing]
+    holders = [top]
+    tuples = []
+    left = MOST_COPIED
+    at = 0
+    # A thing may be deeper than calls within calls may be, so the holders are gone through one behind another.
+    while at < len(holders):
+        holder = holders[at]
+        places = nested_places(holder)
+        for place in places:
+            held = holder[place]
+            own = own_of(held, left)
+            left -= 1 + len(own)
+            holder[place] = own
+            holders.append(own)
+            if isinstance(held, tuple):
+                tuples.append((holder, place))
+        at += 1
+    # The innermost first: nothing can be put into a tuple any more.
+    for holder, place in reversed(tuples):
+        holder[place] = tuple(holder[place])
+    return top[0]
 
 
 class MapError(ValueError):
@@ -36,7 +64,7 @@ class NoWeb(MapError):
     def __init__(self, fault):
         MapError.__init__(self, "these turns are no web")
         # The fault may bear a list out of the turns, and that one stays with whoever handed it in.
-        self.fault = copied(fault, [MOST_COPIED])
+        self.fault = copied(fault)
 
 
 class NotPlane(MapError):

@@ -103,6 +103,22 @@ class Fields(unittest.TestCase):
         self.assertIsInstance(str(NoWeb(("alien", 0, 10 ** 5000))), str)
 
 
+def own_throughout(test, told, handed):
+    """Whether no list, tuple with lists or dict of what is told is one of what was handed in, place by place."""
+    waiting = [(told, handed)]
+    while waiting:
+        own, given = waiting.pop()
+        test.assertIs(type(own), type(given))
+        if isinstance(own, (list, tuple, dict)):
+            test.assertEqual(len(own), len(given))
+            if not isinstance(own, tuple):
+                test.assertIsNot(own, given)
+            places = own if isinstance(own, dict) else range(len(own))
+            waiting.extend((own[place], given[place]) for place in places)
+        else:
+            test.assertIs(own, given)
+
+
 class FaultsBelongToTheRefusal(unittest.TestCase):
     def test_a_list_in_the_fault_is_not_kept(self):
         for wrap in (lambda held: held, lambda held: [held], lambda held: (1, held), lambda held: {"a": held}):
@@ -112,22 +128,81 @@ class FaultsBelongToTheRefusal(unittest.TestCase):
             held[1].append(4)
             self.assertEqual(refusal.fault, ("alien", 0, wrap([1, [2]])))
 
+    def test_many_lists_at_each_depth(self):
+        for many in (1, 199, 200, 201, 300, 5000, 200000):
+            own_throughout(self, *self.told_and_handed([[k] for k in range(many)]))
+            own_throughout(self, *self.told_and_handed({k: [k] for k in range(many)}))
+            own_throughout(self, *self.told_and_handed(tuple([k] for k in range(many))))
+            own_throughout(self, *self.told_and_handed([(k, {"a": ([k], k)}) for k in range(many // 3)]))
+        own_throughout(self, *self.told_and_handed([[[[[k] * 3 for k in range(9)] for _ in range(9)]] * 9] * 9))
+
+    def told_and_handed(self, alien):
+        fault = NoWeb(("alien", 0, alien)).fault
+        self.assertEqual(fault[:2], ("alien", 0))
+        self.assertIs(type(fault), tuple)
+        return fault[2], alien
+
+    def test_lists_within_tuples_within_lists(self):
+        inner = [5]
+        alien = [(1, (2, [(inner, {"k": (inner,)})]))]
+        told, handed = self.told_and_handed(alien)
+        inner.append(6)
+        self.assertEqual(told, [(1, (2, [([5], {"k": ([5],)})]))])
+        told[0][1][1][0][0].append(7)
+        self.assertEqual(handed, [(1, (2, [([5, 6], {"k": ([5, 6],)})]))])
+
     def test_a_list_that_holds_itself(self):
-        for many in (1, 2, 30):
+        for many in (1, 2, 30, 1000):
             held = []
             held.extend([held] * many)
-            fault = NoWeb(("alien", 0, held)).fault
-            self.assertEqual(fault[:2], ("alien", 0))
-            self.assertEqual(len(fault[2]), many)
+            told, handed = self.told_and_handed(held)
+            self.assertEqual(len(told), many)
+            self.assertEqual(len(handed), many)
+            self.none_of_it(told, handed)
+
+    def test_others_that_hold_themselves(self):
+        within = {}
+        within["a"] = within
+        told, handed = self.told_and_handed(within)
+        self.assertEqual(list(told), ["a"])
+        self.none_of_it(told, handed)
+        within = []
+        within.append((within, 1))
+        told, handed = self.told_and_handed(within)
+        self.assertEqual(told[0][1], 1)
+        self.none_of_it(told, handed)
+
+    def none_of_it(self, told, handed):
+        """Nowhere in what is told is what was handed in, which holds itself."""
+        waiting = [told]
+        while waiting:
+            held = waiting.pop()
+            self.assertIsNot(held, handed)
+            if isinstance(held, (list, tuple)):
+                waiting.extend(held)
+            elif isinstance(held, dict):
+                waiting.extend(held.values())
+
+    def test_lists_held_many_times_over(self):
+        # Gone through one by one these would be more than anybody can.
+        for wrap in (lambda held: [held, held], lambda held: (held, held), lambda held: {1: held, 2: held}):
+            held = []
+            for _ in range(80):
+                held = wrap(held)
+            told, handed = self.told_and_handed(held)
+            self.assertIs(type(told), type(handed))
+            self.assertEqual(len(told), 2)
 
     def test_a_list_nested_very_deep(self):
-        deep = []
-        for _ in range(20000):
-            deep = [deep]
-        self.assertEqual(len(NoWeb(("alien", 0, deep)).fault[2]), 1)
-        # Taken apart level by level: Python need not let go of such a thing at once.
-        while deep:
-            deep = deep.pop()
+        for wrap in (lambda held: [held], lambda held: (held,), lambda held: {0: held}):
+            deep = bottom = [[]]
+            for _ in range(20000):
+                deep = wrap(deep)
+            told, handed = self.told_and_handed(deep)
+            bottom[0].append(7)
+            for _ in range(20000):
+                told = told[0]
+            self.assertEqual(told, [[]])
 
 
 if __name__ == "__main__":

@@ -109,6 +109,24 @@ class Aliens(unittest.TestCase):
         fault[2].clear()
         self.assertEqual(turns, [[[1, [2, {"a": [3, 5]}], 4]]])
 
+    def test_many_lists_in_the_fault_are_not_those_handed_in(self):
+        for many in (300, 3000):
+            alien = [[] for _ in range(many)]
+            fault = fault_of([[alien]])
+            alien[many - 50].append(7)
+            self.assertEqual(fault, ("alien", 0, [[] for _ in range(many)]))
+            fault[2][many - 40].append(8)
+            self.assertEqual([place for place, held in enumerate(alien) if held], [many - 50])
+
+    def test_turns_that_hold_themselves(self):
+        turns = [[1], [0]]
+        turns[1].append(turns)
+        fault = fault_of(turns)
+        self.assertEqual(fault[:2], ("alien", 1))
+        self.assertEqual(fault[2][0], [1])
+        fault[2][0].append(5)
+        self.assertEqual((len(turns), turns[0], len(turns[1])), (2, [1], 2))
+
 
 class OtherFaults(unittest.TestCase):
     def check(self, rows):
