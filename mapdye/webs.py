@@ -111,3 +111,9 @@ class Web:
         """The point right behind q in p's turn; p and q are tied."""
         row = self.rows[p]
         return row[(row.index(q) + 1) % len(row)]
+
+
+def need_at_most(web, most):
+    """Refuses a web of more points than these."""
+    if web.many() > most:
+        raise TooMany(f"this is asked of webs of at most {most} points, not {web.many()}")

@@ -235,3 +235,48 @@ def without_point(turns, v):
         if sorted(land) == sorted(around) and land in rotations(around[::-1]):
             return made, land
     raise AssertionError("the point leaves no land")
+
+
+def bipyramid(rim):
+    """A rim, and a point on either side of it that is tied to all of it."""
+    turns = wheel(rim)
+    return with_point_in(turns, [land for land in lands_of(turns) if rim not in land][0])
+
+
+def land_with(turns, *points):
+    """A land that has just these points."""
+    return [land for land in lands_of(turns) if sorted(land) == sorted(points)][0]
+
+
+def with_two_on_tie(turns, a, b):
+    """Two points on a tie of a filled-in web, tied to both points beside it: even numbers of ties stay even."""
+    beside = [p for land in lands_of(turns) if {a, b} < set(land) for p in land if p not in (a, b)]
+    x = len(turns)
+    made = without(turns, a, b)
+    made = with_point_in(made, land_with(made, a, b, *beside))
+    made = without(made, x, b)
+    return with_point_in(made, land_with(made, x, b, *beside))
+
+
+def with_three_in_land(turns, land):
+    """Three points in a land of three, tied to each other and each to two of its points; even stays even."""
+    a, b, c = land
+    x, y, z = range(len(turns), len(turns) + 3)
+    made = with_point_in(turns, land)
+    made = with_point_in(made, land_with(made, b, c, x))
+    made = with_point_in(made, land_with(made, c, a, x))
+    made = without(made, c, x)
+    wide = land_with(made, c, y, x, z)
+    return put_in_turns(made, wide, wide.index(y), wide.index(z))
+
+
+def even_turns(start):
+    """A filled-in web of up to 14 points, each with an even number of ties, others for other starts."""
+    picker = Picker(start)
+    turns = bipyramid(4)
+    while len(turns) < 12 - picker.below(7):
+        if picker.below(2):
+            turns = with_two_on_tie(turns, *picker.one_of(ties_of(turns)))
+        else:
+            turns = with_three_in_land(turns, picker.one_of(lands_of(turns)))
+    return turned(renamed(turns, picker.some(range(len(turns)), len(turns))), picker)
