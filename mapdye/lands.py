@@ -1,6 +1,6 @@
 """Lands: the rounds of sides of a web, and by their number whether it is plane."""
 
-from mapdye.errors import NotPlane
+from mapdye.errors import NotFilled, NotPlane
 
 
 def round_from(web, side):
@@ -45,3 +45,10 @@ def need_plane(web):
     """Refuses a web that is not plane."""
     if not is_plane(web):
         raise NotPlane(count(web))
+
+
+def need_filled(web, rim):
+    """Refuses a web in which a land other than the rim, which may be None, has not three points."""
+    for number, land in enumerate(lands(web)):
+        if len(land) != 3 and land != rim:
+            raise NotFilled(number)

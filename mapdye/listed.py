@@ -1,16 +1,9 @@
 """Dyes from lists: of three dyes at a rim and five within it, and of five everywhere."""
 
-from mapdye.errors import Alike, NotFilled, TooFew
+from mapdye.errors import Alike, TooFew
 from mapdye.filling import filled
-from mapdye.lands import lands, need_plane
+from mapdye.lands import lands, need_filled, need_plane
 from mapdye.rings import begun_at, chords, made_less, parted, rim_told, within_at
-
-
-def need_filled(web, rim):
-    """Refuses a web in which a land other than the rim has not three points."""
-    for number, land in enumerate(lands(web)):
-        if len(land) != 3 and land != rim:
-            raise NotFilled(number)
 
 
 def need_enough(lists, needed):
